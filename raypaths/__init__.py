@@ -1,0 +1,1 @@
+"""Ways of light through systems of surfaces, mirrors and stops."""
