@@ -1,1 +1,1 @@
-"""Ways of light through systems of surfaces, mirrors and stops."""
+"""Ways of light, and fans of rays, through systems of surfaces, mirrors and stops."""

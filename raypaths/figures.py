@@ -1,5 +1,6 @@
 """Numbers as texts: those handed over, and those told. A number is a pair: numerator and denominator."""
 
+BLANK = 32
 MINUS = 45
 POINT = 46
 SLASH = 47

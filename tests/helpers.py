@@ -1,8 +1,8 @@
-"""What the tests share: texts as lists of bytes, and the call as one asks it by hand."""
+"""What the tests share: texts as lists of bytes, and the calls as one asks them by hand."""
 
 from fractions import Fraction
 
-from raypaths.rays import path
+from raypaths.rays import fan, path
 
 AIR = "glass air:1,1,1;start air;"
 WIDENED_RAY = {"x": "1/100000000000000000", "z": "-1", "p": 256}
@@ -15,7 +15,16 @@ def bytes_of(text):
 def ask(system, x="0", y="0", u="0", v="0", z="0", p=8, line=0):
     """path's answer: a text, or the list that refuses."""
     handed = [bytes_of(number) for number in (x, y, u, v, z)]
-    answer = path(line, p, bytes_of(system), *handed)
+    return text_told(path(line, p, bytes_of(system), *handed))
+
+
+def ask_fan(system, rays, z="0", x="0", y="0", p=8, line=0):
+    """fan's answer: a text, or the list that refuses."""
+    handed = [bytes_of(text) for text in (system, rays, z, x, y)]
+    return text_told(fan(line, p, *handed))
+
+
+def text_told(answer):
     if answer[0] < 0:
         return answer
     if answer[0] != len(answer) - 1:
@@ -27,6 +36,16 @@ def ends(answer):
     """lo and hi of an answered text."""
     lo, hi = answer.split(" ")
     return Fraction(lo), Fraction(hi)
+
+
+def farthest(answer):
+    """lo and hi of a fan's answered text."""
+    return ends(" ".join(answer.split(" ")[:2]))
+
+
+def fates(answer):
+    """Of a fan's answered text, as one writes them: "0 0 1"."""
+    return " ".join(answer.split(" ")[2:])
 
 
 def widening(stops):

@@ -86,8 +86,10 @@ def times(a, b):
     return a[0] * b[0] + a[1] * b[1] + a[2] * b[2]
 
 
-def length(parts, medium, start, plane, p):
-    """lo and hi. A part: dict of kind, gap, n (a surface's), c, k, clear (None: anywhere); medium is an index."""
+def arrival(parts, medium, start, plane, p):
+    """The point in the plane, and how long it is to there, as intervals.
+
+    A part: dict of kind, gap, n (a surface's), c, k, clear (None: anywhere); medium is an index."""
     o, root = outward_to(p), root_to(p)
     x, y, u, v = [interval(number) for number in start]
     w = root(o(1 + u * u + v * v))
@@ -156,8 +158,31 @@ def length(parts, medium, start, plane, p):
     if 0 in d[2]:
         left_open("plane")
     T = o((Fraction(plane) - point[2]) / d[2])
-    way_long = o(way_long + n * T)
+    point = [o(point[i] + T * d[i]) for i in range(3)]
+    return point, o(way_long + n * T)
+
+
+def length(parts, medium, start, plane, p):
+    """lo and hi."""
+    way_long = arrival(parts, medium, start, plane, p)[1]
     return way_long.lo, way_long.hi
+
+
+def fan(parts, medium, starts, plane, place, p):
+    """The text that is told: the farthest's lo and hi, and each ray's fate."""
+    o = outward_to(p)
+    lows, highs, fates = [Fraction(0)], [Fraction(0)], []
+    for start in starts:
+        try:
+            x, y, z = arrival(parts, medium, start, plane, p)[0]
+        except Gone as gone:
+            fates.append({"fails": "1", "open": "2"}[gone.args[0]])
+            continue
+        fates.append("0")
+        far = o((x - Fraction(place[0])).squared() + (y - Fraction(place[1])).squared())
+        lows.append(far.lo)
+        highs.append(far.hi)
+    return " ".join([str(max(lows)), str(max(highs))] + fates)
 
 
 def text_of(parts, medium):

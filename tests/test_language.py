@@ -36,6 +36,7 @@ WORDS_NOWHERE = re.compile(
 VALUES_OF_PYTHON = {name for kind in (str, int, list, tuple, dict, set, bytes, float) for name in dir(kind)}
 VALUES_ALLOWED = set("count index title find get join lower upper split strip copy add".split())
 WALKED = ("zip", "enumerate", "reversed", "range")
+CHANGES = ("append", "clear", "extend", "insert", "pop", "remove", "reverse", "setdefault", "update")
 
 
 def nodes(*kinds):
@@ -170,6 +171,55 @@ class Forms(unittest.TestCase):
         self.assertEqual(len(calls), walks)
 
 
+    def test_what_a_loop_walks_is_not_changed_in_it(self):
+        for file, loop in nodes(ast.For):
+            walked = {ast.dump(node) for node in ast.walk(loop.iter) if isinstance(node, (ast.Name, ast.Attribute))}
+            for node in [node for row in loop.body for node in ast.walk(row)]:
+                if isinstance(node, ast.Call) and getattr(node.func, "attr", None) in CHANGES:
+                    self.assertNotIn(ast.dump(node.func.value), walked, where(file, node))
+                if isinstance(node, ast.Subscript) and isinstance(node.ctx, ast.Store):
+                    self.assertNotIn(ast.dump(node.value).replace("Store", "Load"), walked, where(file, node))
+
+    def test_no_parameter_is_changed(self):
+        """Lists and dicts that are handed in; objects of the package's own are changed by their values."""
+        changed = {"names"}  # read_part notes each name in the dict that read_system made for it.
+        for file, function in nodes(ast.FunctionDef):
+            handed = {arg.arg for arg in function.args.args} - changed
+            for node in ast.walk(function):
+                if isinstance(node, ast.Call) and getattr(node.func, "attr", None) in CHANGES:
+                    self.assertNotIn(getattr(node.func.value, "id", None), handed, where(file, node))
+                if isinstance(node, ast.Subscript) and isinstance(node.ctx, ast.Store):
+                    self.assertNotIn(getattr(node.value, "id", None), handed, where(file, node))
+
+    def test_one_plain_target_in_an_assignment(self):
+        for file, node in nodes(ast.Assign):
+            self.assertIsInstance(node.targets[0], (ast.Name, ast.Attribute, ast.Subscript), where(file, node))
+
+    def test_classes_are_called_raised_taken_or_bases(self):
+        own = {node.name for _, node in nodes(ast.ClassDef)}
+        seen = fit = 0
+        for _, node in nodes(ast.Name, ast.Call, ast.ExceptHandler, ast.ClassDef):
+            if isinstance(node, ast.Name):
+                seen += node.id in own
+            elif isinstance(node, ast.Call):
+                fit += getattr(node.func, "id", None) in own
+            else:
+                taken = node.bases if isinstance(node, ast.ClassDef) else [node.type]
+                fit += sum(name.id in own for one in taken for name in getattr(one, "elts", [one]))
+        self.assertEqual(seen, fit)
+
+    def test_a_top_holds_no_list_within_a_list(self):
+        for file in FILES:
+            for node in ast.parse(file.read_text("utf-8")).body:
+                if isinstance(node, ast.Assign) and isinstance(node.value, (ast.List, ast.Dict)):
+                    within = [inner for inner in ast.walk(node.value) if isinstance(inner, (ast.List, ast.Dict))]
+                    self.assertEqual(within, [node.value], where(file.name, node))
+
+    def test_no_keyword_at_a_call(self):
+        for file, node in nodes(ast.Call):
+            self.assertEqual(node.keywords, [], where(file, node))
+
+
 class Names(unittest.TestCase):
     def bound(self):
         for file, node in nodes(ast.Name, ast.arg, ast.FunctionDef, ast.ClassDef):
@@ -229,6 +279,11 @@ class Interface(unittest.TestCase):
         import inspect
         from raypaths.rays import path
         self.assertEqual(list(inspect.signature(path).parameters), ["line", "p", "t", "x", "y", "u", "v", "z"])
+
+    def test_fan_takes_what_the_document_names(self):
+        import inspect
+        from raypaths.rays import fan
+        self.assertEqual(list(inspect.signature(fan).parameters), ["line", "p", "t", "f", "z", "x", "y"])
 
 
 if __name__ == "__main__":

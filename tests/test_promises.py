@@ -1,4 +1,4 @@
-"""Lengths against light's own laws: enclosed (2), stationary (3), and the same at all finenesses (4)."""
+"""Lengths and fans against light's own laws: enclosed (2), stationary (3), and the same at all finenesses (4)."""
 
 import random
 import unittest
@@ -9,7 +9,7 @@ from raypaths.spans import exact
 from raypaths.systems import read_system
 from raypaths.tracing import go_to_plane, pass_part, start_ray
 from tests import drawing, oracle
-from tests.helpers import ask, bytes_of, ends
+from tests.helpers import ask, ask_fan, bytes_of, ends, farthest, fates
 
 DIGITS = 60
 
@@ -29,39 +29,55 @@ def unit(a):
 
 
 def meeting(c, k, point, way):
-    """How far it is to the shell's part by the vertex, of both points the one that's met from outside."""
+    """How far it is to the shell, to each of its points on the ray's line."""
     a = c * (way[0] ** 2 + way[1] ** 2 + (1 + k) * way[2] ** 2)
     b = 2 * c * (point[0] * way[0] + point[1] * way[1] + (1 + k) * point[2] * way[2]) - 2 * way[2]
     e = c * (point[0] ** 2 + point[1] ** 2 + (1 + k) * point[2] ** 2) - 2 * point[2]
     if abs(a) < Decimal(10) ** -40:
-        return [-e / b]
+        return [-e / b] if b else []
+    if b * b < 4 * a * e:
+        return []
     inside = (b * b - 4 * a * e).sqrt()
     return [(-b - inside) / (2 * a), (-b + inside) / (2 * a)]
 
 
-def true_length(parts, medium, start, plane):
-    """By textbook optics, with unit normals and cosines: for rays that get through."""
+def met_at(c, k, point, way, sign):
+    """How far, the point and the unit normal there: of the part by the vertex, met from outside. None: it misses."""
+    for far in meeting(c, k, point, way):
+        met = [one + far * other for one, other in zip(point, way)]
+        normal = unit([-c * met[0], -c * met[1], 1 - c * (1 + k) * met[2]])
+        if normal[2] > 0 and inner(normal, way) * sign > 0:
+            return far, met, normal
+    return None
+
+
+def true_end(parts, medium, start, plane):
+    """By textbook optics, with unit normals and cosines: the point in the plane and the length. None: it is lost."""
     x, y, u, v = [decimal(number) for number in start]
     point, way = [x, y, Decimal(0)], unit([u, v, Decimal(1)])
     n, sign, total = decimal(medium), 1, Decimal(0)
     for part in parts:
         c, k = decimal(part["c"]), decimal(part["k"])
         point[2] -= sign * decimal(part["gap"])
-        for far in meeting(c, k, point, way):
-            met = [one + far * other for one, other in zip(point, way)]
-            normal = unit([-c * met[0], -c * met[1], 1 - c * (1 + k) * met[2]])
-            if normal[2] > 0 and inner(normal, way) * sign > 0:
-                break
-        point, total = met, total + n * far
+        found = met_at(c, k, point, way, sign)
+        if found is None:
+            return None
+        far, point, normal = found
+        total += n * far
+        if part["clear"] is not None and point[0] ** 2 + point[1] ** 2 > decimal(part["clear"]) ** 2:
+            return None
         cosine = inner(normal, way)
         if part["kind"] == "mirror":
             way, sign = [one - 2 * cosine * other for one, other in zip(way, normal)], -sign
         if part["kind"] == "surface":
             ratio = n / decimal(part["n"])
+            if ratio * ratio * (1 - cosine * cosine) > 1:
+                return None
             behind = sign * (1 - ratio * ratio * (1 - cosine * cosine)).sqrt()
             way = [ratio * one + (behind - ratio * cosine) * other for one, other in zip(way, normal)]
             n = decimal(part["n"])
-    return total + n * (decimal(plane) - point[2]) / way[2]
+    far = (decimal(plane) - point[2]) / way[2]
+    return [one + far * other for one, other in zip(point, way)], total + n * far
 
 
 class Lengths(unittest.TestCase):
@@ -82,7 +98,7 @@ class Lengths(unittest.TestCase):
                 if not isinstance(answers[2], str):
                     continue
                 arrived += 1
-                length = Fraction(true_length(*case))
+                length = Fraction(true_end(*case)[1])
                 for answer in answers:
                     if isinstance(answer, str):
                         lo, hi = ends(answer)
@@ -106,6 +122,76 @@ class Lengths(unittest.TestCase):
             if isinstance(answer, str):
                 lo, hi = ends(answer)
                 self.assertLessEqual(lo, hi)
+
+
+class Fans(unittest.TestCase):
+    SLACK = Fraction(1, 10 ** 30)
+
+    def drawn(self, rng, steep):
+        parts, medium, _, plane = drawing.case(rng, steep)
+        starts = [drawing.case(rng, steep)[2] for _ in range(rng.randint(1, 6))]
+        place = [drawing.fraction(rng, 3, 7) for _ in range(2)]
+        return parts, medium, starts, plane, place
+
+    def answer(self, parts, medium, starts, plane, place, p):
+        rays = " ".join(str(number) for start in starts for number in start)
+        return ask_fan(oracle.text_of(parts, medium), rays, str(plane), str(place[0]), str(place[1]), p)
+
+    def squares(self, case, told):
+        """How far each ray that's told to arrive truly comes to; and every fate is held against the true one."""
+        parts, medium, starts, plane, place = case
+        found = []
+        for start, fate in zip(starts, told):
+            if fate == "2":
+                continue
+            end = true_end(parts, medium, start, plane)
+            self.assertEqual(end is None, fate == "1", (case, start))
+            if fate == "0":
+                found.append(sum(Fraction(one - decimal(other)) ** 2 for one, other in zip(end[0], place)))
+        return found
+
+    def test_what_is_told_is_true(self):
+        rng = random.Random(21)
+        seen = {"0": 0, "1": 0, "2": 0}
+        with localcontext() as context:
+            context.prec = DIGITS
+            for turn in range(250):
+                case = self.drawn(rng, steep=turn % 2 == 1)
+                for p in (2, 7, 20, 90):
+                    answer = self.answer(*case, p)
+                    told = fates(answer).split(" ")
+                    self.assertEqual(len(told), len(case[2]))
+                    squares = self.squares(case, told)
+                    lo, hi = farthest(answer)
+                    self.assertTrue(0 <= lo <= hi)
+                    self.assertLessEqual(max(squares, default=0), hi + self.SLACK, (case, p))
+                    self.assertGreaterEqual(max(squares, default=0), lo - self.SLACK, (case, p))
+                    for fate in told:
+                        seen[fate] += 1
+        self.assertGreater(min(seen.values()), 400)
+
+    def test_finenesses_never_tell_a_ray_to_arrive_and_to_fail(self):
+        rng = random.Random(22)
+        decided = {"0": 0, "1": 0}
+        for turn in range(120):
+            case = self.drawn(rng, steep=turn % 3 > 0)
+            answers = [fates(self.answer(*case, p)).split(" ") for p in (0, 1, 3, 5, 9, 17, 33, 80, 256)]
+            for told in zip(*answers):
+                self.assertFalse("0" in told and "1" in told, (case, told))
+                for fate in set(told) & set(decided):
+                    decided[fate] += 1
+        self.assertGreater(min(decided.values()), 80)
+
+    def test_finenesses_never_tell_the_farthest_apart(self):
+        rng = random.Random(23)
+        compared = 0
+        for turn in range(120):
+            case = self.drawn(rng, steep=turn % 3 == 0)
+            answers = [self.answer(*case, p) for p in (1, 4, 8, 16, 40, 100, 256)]
+            spans = [farthest(answer) for answer in answers if fates(answer) == fates(answers[-1])]
+            self.assertLessEqual(max(lo for lo, hi in spans), min(hi for lo, hi in spans), case)
+            compared += len(spans) - 1
+        self.assertGreater(compared, 200)
 
 
 LENS = ("glass a:1,1,1;glass b:3/2,3/2,3/2;glass c:8/5,8/5,8/5;start a;surface s after 5 into b radius 7 conic -1/2;"
